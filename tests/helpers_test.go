@@ -1,0 +1,70 @@
+package tests
+
+import (
+	"math"
+	"reflect"
+	"slices"
+	"strings"
+	"testing"
+
+	"loop.example/g00955/impl"
+)
+
+const (
+	minInt = math.MinInt64
+	maxInt = math.MaxInt64
+)
+
+// edgeNumbers are the numbers around which limits and overflows lie.
+func edgeNumbers() []int64 {
+	return []int64{
+		minInt, minInt + 1, -3037000500, -impl.MaxValue - 1, -impl.MaxValue, -1000001, -1000000,
+		-65536, -3, -2, -1, 0, 1, 2, 3, 11, 12, 65535, 65536, 1000000, 1000001,
+		impl.MaxValue, impl.MaxValue + 1, 3037000499, 3037000500, maxInt - 1, maxInt,
+	}
+}
+
+// edgeTexts are texts of all sorts, most of which no function has written.
+func edgeTexts() []string {
+	return []string{
+		"", " ", "  ", "-", "--", ",", ",,", "-,", ",-", "-,-", "0", "-0", "00", "01", "+1", "1,", ",1",
+		"a", "a b", " a  b ", "abcdefghij", "abcdefghijk", "7a", "A", "1.5", "1e3", "0x1", "1_0",
+		"\x00", "\xff\xfe", "é", "\u00a0", "a\tb\nc", "\u0661",
+		"999999999999999999", "-999999999999999999", "1000000000000000000",
+		"9223372036854775807", "-9223372036854775808", "99999999999999999999999999",
+		"1000000000000,-1000000000000", "1000000000001", "-1000000000001",
+		strings.Repeat(" ", 1000), strings.Repeat("0,", 63) + "0", strings.Repeat("0,", 64) + "0",
+		strings.Repeat("9", 10000), strings.Repeat(",", 10000),
+	}
+}
+
+// checkResult compares two results; a nil slice and an empty slice count as equal.
+func checkResult[T any](t *testing.T, call string, got, want T) {
+	t.Helper()
+	g, w := reflect.ValueOf(&got).Elem(), reflect.ValueOf(&want).Elem()
+	if g.Kind() == reflect.Slice && g.Len() == 0 && w.Len() == 0 {
+		return
+	}
+	if !reflect.DeepEqual(got, want) {
+		t.Errorf("%s: got %#v, want %#v", call, got, want)
+	}
+}
+
+// checkKept calls use with a list that has unused capacity, and checks that neither part changes.
+func checkKept(t *testing.T, call string, list []int64, use func([]int64)) {
+	t.Helper()
+	whole := append(slices.Clone(list), 7777, -7777, 7777)
+	before := slices.Clone(whole)
+	use(whole[:len(list)])
+	if !slices.Equal(whole, before) {
+		t.Errorf("%s: changed its argument from %v to %v", call, before, whole)
+	}
+}
+
+// checkRepeats calls a function twice and checks that the results are equal.
+func checkRepeats(t *testing.T, call string, use func() []any) {
+	t.Helper()
+	if first, second := use(), use(); !reflect.DeepEqual(first, second) {
+		t.Errorf("%s: first %v, then %v", call, first, second)
+	}
+}
