@@ -50,13 +50,19 @@ func checkResult[T any](t *testing.T, call string, got, want T) {
 	}
 }
 
-// checkKept calls use with a list that has unused capacity, and checks that neither part changes.
+// checkKept calls use with a list of numbers that has unused capacity, and checks that neither part changes.
 func checkKept(t *testing.T, call string, list []int64, use func([]int64)) {
 	t.Helper()
-	whole := append(slices.Clone(list), 7777, -7777, 7777)
+	checkListKept(t, call, list, []int64{7777, -7777, 7777}, use)
+}
+
+// checkListKept calls use with a list whose unused capacity has a rest, and checks that neither part changes.
+func checkListKept[T any](t *testing.T, call string, list, rest []T, use func([]T)) {
+	t.Helper()
+	whole := slices.Concat(list, rest)
 	before := slices.Clone(whole)
 	use(whole[:len(list)])
-	if !slices.Equal(whole, before) {
+	if !reflect.DeepEqual(whole, before) {
 		t.Errorf("%s: changed its argument from %v to %v", call, before, whole)
 	}
 }
