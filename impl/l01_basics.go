@@ -34,6 +34,7 @@ const (
 	maxPoint      = 1000000
 	crcGreatest   = 65535
 	crcPolynomial = 4129
+	wordBlank     = " "
 	listComma     = ","
 	emptyListText = "-"
 )
@@ -88,7 +89,7 @@ func ReadDecimal(s string) (int64, bool) {
 func SplitWords(s string) []string {
 	// Not strings.Fields: it would also divide at tabs, ends of lines and wide blanks.
 	words := []string{}
-	for _, part := range strings.Split(s, " ") {
+	for _, part := range strings.Split(s, wordBlank) {
 		if part != "" {
 			words = append(words, part)
 		}
@@ -239,4 +240,17 @@ func greatest[T cmp.Ordered](first T, others ...T) T {
 // within reports whether all values are from low to high; without values, this holds.
 func within[T cmp.Ordered](low, high T, values ...T) bool {
 	return least(low, values...) == low && greatest(high, values...) == high
+}
+
+// isNamedList reports whether a list has at most a number of values, all of them valid, with strictly increasing names.
+func isNamedList[T any](list []T, most int, isValid func(T) bool, nameOf func(T) string) bool {
+	if len(list) > most {
+		return false
+	}
+	for i, x := range list {
+		if !isValid(x) || i > 0 && nameOf(list[i-1]) >= nameOf(x) {
+			return false
+		}
+	}
+	return true
 }
