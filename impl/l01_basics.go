@@ -242,15 +242,25 @@ func within[T cmp.Ordered](low, high T, values ...T) bool {
 	return least(low, values...) == low && greatest(high, values...) == high
 }
 
-// isNamedList reports whether a list has at most a number of values, all of them valid, with strictly increasing names.
-func isNamedList[T any](list []T, most int, isValid func(T) bool, nameOf func(T) string) bool {
+// isIndex reports whether all numbers are indices of a list with a number of values.
+func isIndex(count int, numbers ...int64) bool { return within(0, int64(count)-1, numbers...) }
+
+func isBudget(n int64) bool { return within(1, MaxBudget, n) }
+
+// isIncreasing reports whether a list has at most a number of values, all of them valid, each of them greater than the one before it.
+func isIncreasing[T any](list []T, most int, isValid func(T) bool, compare func(T, T) int) bool {
 	if len(list) > most {
 		return false
 	}
 	for i, x := range list {
-		if !isValid(x) || i > 0 && nameOf(list[i-1]) >= nameOf(x) {
+		if !isValid(x) || i > 0 && compare(list[i-1], x) >= 0 {
 			return false
 		}
 	}
 	return true
+}
+
+// isNamedList reports whether a list has at most a number of values, all of them valid, with strictly increasing names.
+func isNamedList[T any](list []T, most int, isValid func(T) bool, nameOf func(T) string) bool {
+	return isIncreasing(list, most, isValid, func(a, b T) int { return cmp.Compare(nameOf(a), nameOf(b)) })
 }

@@ -101,6 +101,10 @@ func checkRefused(t *testing.T, calls []horizonCall, code int64) {
 			checkResult(t, c.call, got, codedBoth(0, 0, code))
 		case codedVector:
 			checkResult(t, c.call, got, codedPlace(impl.Vector{}, code))
+		case codedList[int64]:
+			checkResult(t, c.call, got, codedMany[int64](nil, code))
+		case codedTour:
+			checkResult(t, c.call, got, codedOrder(nil, 0, code))
 		default:
 			t.Errorf("%s: a result of another kind: %v", c.call, got)
 		}
