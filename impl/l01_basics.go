@@ -132,6 +132,27 @@ func ReadList(s string) ([]int64, bool) {
 	return list, true
 }
 
+// readNumbers is ReadList for lists of one length only.
+func readNumbers(s string, count int) ([]int64, bool) {
+	list, ok := ReadList(s)
+	if !ok || len(list) != count {
+		return nil, false
+	}
+	return list, true
+}
+
+// namedNumbersText returns a name, a blank, and a ListText.
+func namedNumbersText(name string, numbers ...int64) string {
+	return name + wordBlank + ListText(numbers)
+}
+
+// readNamedNumbers returns the parts of a namedNumbersText; the name may be none.
+func readNamedNumbers(s string, count int) (name string, numbers []int64, ok bool) {
+	name, text, _ := strings.Cut(s, wordBlank)
+	numbers, ok = readNumbers(text, count)
+	return name, numbers, ok
+}
+
 // Crc16 returns the check value of bytes.
 func Crc16(s string, start int64) int64 {
 	if !within(0, crcGreatest, start) {

@@ -1,6 +1,7 @@
 package tests
 
 import (
+	"fmt"
 	"math"
 	"reflect"
 	"slices"
@@ -72,5 +73,63 @@ func checkRepeats(t *testing.T, call string, use func() []any) {
 	t.Helper()
 	if first, second := use(), use(); !reflect.DeepEqual(first, second) {
 		t.Errorf("%s: first %v, then %v", call, first, second)
+	}
+}
+
+// textForm has the functions of a kind of values that have texts.
+type textForm[T comparable] struct {
+	kind string
+	text func(T) string
+	read func(string) (T, bool)
+}
+
+// checkReadBack checks the text of a value, and that it leads back to the value.
+func (f textForm[T]) checkReadBack(t *testing.T, x T, text string) {
+	t.Helper()
+	checkResult(t, fmt.Sprintf("%sText(%v)", f.kind, x), f.text(x), text)
+	if got, ok := f.read(text); got != x || !ok {
+		t.Errorf("Read%s(%q): got %v, %t, want %v, true", f.kind, text, got, ok, x)
+	}
+}
+
+// checkNoTexts checks that none of the values has a text.
+func (f textForm[T]) checkNoTexts(t *testing.T, values []T) {
+	t.Helper()
+	for _, x := range values {
+		checkResult(t, fmt.Sprintf("%sText(%q)", f.kind, fmt.Sprint(x)), f.text(x), "")
+	}
+}
+
+// checkNotRead checks that none of the texts leads to a value.
+func (f textForm[T]) checkNotRead(t *testing.T, texts []string) {
+	t.Helper()
+	for _, s := range texts {
+		if got, ok := f.read(s); got != *new(T) || ok {
+			t.Errorf("Read%s(%.60q): got %v, %t, want the zero value and false", f.kind, s, got, ok)
+		}
+	}
+}
+
+// checkNoParts checks that no part of a text before one of its bytes leads to a value.
+func (f textForm[T]) checkNoParts(t *testing.T, whole string) {
+	t.Helper()
+	for i := range len(whole) {
+		f.checkNotRead(t, []string{whole[:i]})
+	}
+}
+
+// checkChanged checks that the parts of a text before a byte, and all texts that differ from it by one byte, are texts of other values or of none.
+func (f textForm[T]) checkChanged(t *testing.T, whole string) {
+	t.Helper()
+	for i := range len(whole) {
+		changed := []string{whole[:i]}
+		for b := range 256 {
+			changed = append(changed, whole[:i]+string([]byte{byte(b)})+whole[i+1:])
+		}
+		for _, s := range changed {
+			if got, ok := f.read(s); ok && f.text(got) != s || !ok && got != *new(T) {
+				t.Errorf("Read%s(%q): got %v, %t", f.kind, s, got, ok)
+			}
+		}
 	}
 }

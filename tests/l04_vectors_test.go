@@ -703,6 +703,8 @@ func TestP5BlendVectorsEverywhere(t *testing.T) {
 
 // Promise 5: texts.
 
+var vectorTexts = textForm[impl.Vector]{"Vector", impl.VectorText, impl.ReadVector}
+
 func TestP5VectorIsReadBack(t *testing.T) {
 	cases := []struct {
 		v    impl.Vector
@@ -712,22 +714,16 @@ func TestP5VectorIsReadBack(t *testing.T) {
 		{vec(most, most, most), "2000000,2000000,2000000"}, {vec(-most, -most, -most), "-2000000,-2000000,-2000000"}, {vec(-most, 0, most), "-2000000,0,2000000"},
 	}
 	for _, c := range cases {
-		checkResult(t, fmt.Sprintf("VectorText(%v)", c.v), impl.VectorText(c.v), c.text)
+		vectorTexts.checkReadBack(t, c.v, c.text)
 	}
 	for _, v := range manyVectors(24, 500) {
-		s := impl.VectorText(v)
-		checkResult(t, fmt.Sprintf("VectorText(%v)", v), s, fmt.Sprintf("%d,%d,%d", v.X, v.Y, v.Z))
-		if got, ok := impl.ReadVector(s); got != v || !ok {
-			t.Errorf("ReadVector(%q): got %v, %t, want %v, true", s, got, ok, v)
-		}
+		vectorTexts.checkReadBack(t, v, fmt.Sprintf("%d,%d,%d", v.X, v.Y, v.Z))
 	}
 }
 
 func TestP5VectorTextRefuses(t *testing.T) {
 	for _, n := range []int64{-2000001, 2000001} {
-		for _, v := range []impl.Vector{vec(n, 0, 0), vec(0, n, 0), vec(0, 0, n), vec(n, n, n)} {
-			checkResult(t, fmt.Sprintf("VectorText(%v)", v), impl.VectorText(v), "")
-		}
+		vectorTexts.checkNoTexts(t, []impl.Vector{vec(n, 0, 0), vec(0, n, 0), vec(0, 0, n), vec(n, n, n)})
 	}
 }
 
@@ -740,21 +736,9 @@ func TestP5ReadVectorRefuses(t *testing.T) {
 		"a,b,c", "1,2,c", "1e3,0,0", "0x1,2,3", "1_0,2,3", "9223372036854775808,0,0", "-9223372036854775808,0,0", "18446744073709551617,0,0",
 		"1,2,3\x00", "\xff,2,3", "\u0661,2,3", strings.Repeat("0", 100) + ",0,0", strings.Repeat("1", 1000) + ",2,3",
 	}
-	for _, s := range append(texts, edgeTexts()...) {
-		if v, ok := impl.ReadVector(s); v != (impl.Vector{}) || ok {
-			t.Errorf("ReadVector(%.60q): got %v, %t, want the zero Vector and false", s, v, ok)
-		}
-	}
+	vectorTexts.checkNotRead(t, append(texts, edgeTexts()...))
 }
 
 func TestP5ReadVectorRefusesChangedBytes(t *testing.T) {
-	whole := "-1234567,89,2000000"
-	for i := range len(whole) {
-		for b := range 256 {
-			s := whole[:i] + string([]byte{byte(b)}) + whole[i+1:]
-			if v, ok := impl.ReadVector(s); ok && impl.VectorText(v) != s || !ok && v != (impl.Vector{}) {
-				t.Errorf("ReadVector(%q): got %v, %t", s, v, ok)
-			}
-		}
-	}
+	vectorTexts.checkChanged(t, "-1234567,89,2000000")
 }

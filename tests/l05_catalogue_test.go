@@ -681,6 +681,8 @@ func TestP6TheNearestStarIsNearest(t *testing.T) {
 
 // Promise 6: texts.
 
+var starTexts = textForm[impl.Star]{"Star", impl.StarText, impl.ReadStar}
+
 func TestP6StarIsReadBack(t *testing.T) {
 	cases := []struct {
 		x    impl.Star
@@ -690,33 +692,16 @@ func TestP6StarIsReadBack(t *testing.T) {
 		{star("a", 0, -90000, -200, -50), "a 0 -90000 -200 -50"}, {star("abcdefghij", 359999, 90000, 800, 250), "abcdefghij 359999 90000 800 250"},
 		{star("z9", 1, -1, -1, -1), "z9 1 -1 -1 -1"}, {star("b0", 10, 100, -10, 200), "b0 10 100 -10 200"},
 	}
+	for _, c := range cases {
+		starTexts.checkReadBack(t, c.x, c.text)
+	}
 	random := rand.New(rand.NewSource(35))
 	for _, x := range slices.Concat(fewStars(), aroundStars(), randomStars(random, 100)) {
-		cases = append(cases, struct {
-			x    impl.Star
-			text string
-		}{x, fmt.Sprintf("%s %d %d %d %d", x.Id, x.Right, x.Declination, x.Magnitude, x.Colour)})
-	}
-	for _, c := range cases {
-		checkResult(t, fmt.Sprintf("StarText(%v)", c.x), impl.StarText(c.x), c.text)
-		if got, ok := impl.ReadStar(c.text); got != c.x || !ok {
-			t.Errorf("ReadStar(%q): got %v, %t, want %v, true", c.text, got, ok, c.x)
-		}
+		starTexts.checkReadBack(t, x, fmt.Sprintf("%s %d %d %d %d", x.Id, x.Right, x.Declination, x.Magnitude, x.Colour))
 	}
 }
 
-func TestP6StarTextRefuses(t *testing.T) {
-	for _, x := range invalidStars() {
-		checkResult(t, fmt.Sprintf("StarText(%q)", fmt.Sprint(x)), impl.StarText(x), "")
-	}
-}
-
-func checkNoStar(t *testing.T, s string) {
-	t.Helper()
-	if x, ok := impl.ReadStar(s); x != (impl.Star{}) || ok {
-		t.Errorf("ReadStar(%.60q): got %v, %t, want the zero Star and false", s, x, ok)
-	}
-}
+func TestP6StarTextRefuses(t *testing.T) { starTexts.checkNoTexts(t, invalidStars()) }
 
 func TestP6ReadStarRefuses(t *testing.T) {
 	texts := []string{
@@ -729,20 +714,11 @@ func TestP6ReadStarRefuses(t *testing.T) {
 		texts = append(texts, "a "+word+" 0 0 0", "a 0 "+word+" 0 0", "a 0 0 "+word+" 0", "a 0 0 0 "+word)
 	}
 	texts = append(texts, "a "+strings.Repeat("0", 100)+" 0 0 0", "a"+strings.Repeat(" 0", 10000), strings.Repeat("a", 10000)+" 0 0 0 0")
-	for _, s := range append(texts, edgeTexts()...) {
-		checkNoStar(t, s)
-	}
+	starTexts.checkNotRead(t, append(texts, edgeTexts()...))
 }
 
 func TestP6ReadStarRefusesChangedBytes(t *testing.T) {
 	whole := "vega 279000 -38780 30 -5"
-	for i := range len(whole) {
-		checkNoStar(t, whole[:i])
-		for b := range 256 {
-			s := whole[:i] + string([]byte{byte(b)}) + whole[i+1:]
-			if x, ok := impl.ReadStar(s); ok && impl.StarText(x) != s || !ok && x != (impl.Star{}) {
-				t.Errorf("ReadStar(%q): got %v, %t", s, x, ok)
-			}
-		}
-	}
+	starTexts.checkChanged(t, whole)
+	starTexts.checkNoParts(t, whole)
 }

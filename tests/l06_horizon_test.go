@@ -105,6 +105,10 @@ func checkRefused(t *testing.T, calls []horizonCall, code int64) {
 			checkResult(t, c.call, got, codedMany[int64](nil, code))
 		case codedTour:
 			checkResult(t, c.call, got, codedOrder(nil, 0, code))
+		case codedSpot:
+			checkResult(t, c.call, got, codedSpot{impl.Spot{}, code})
+		case codedView:
+			checkResult(t, c.call, got, codedView{0, 0, 0, code})
 		default:
 			t.Errorf("%s: a result of another kind: %v", c.call, got)
 		}
@@ -636,6 +640,8 @@ func TestP7VisibleStarsEverywhere(t *testing.T) {
 
 // Promise 7: texts.
 
+var siteTexts = textForm[impl.Site]{"Site", impl.SiteText, impl.ReadSite}
+
 func TestP7SiteIsReadBack(t *testing.T) {
 	cases := []struct {
 		s    impl.Site
@@ -647,32 +653,16 @@ func TestP7SiteIsReadBack(t *testing.T) {
 		{impl.Site{Name: "a", Longitude: -179999, Latitude: 89999}, "a -179.999 89.999"}, {impl.Site{Name: "a", Longitude: 179999, Latitude: -89999}, "a 179.999 -89.999"},
 	}
 	for _, c := range cases {
-		checkResult(t, fmt.Sprintf("SiteText(%v)", c.s), impl.SiteText(c.s), c.text)
-		if got, ok := impl.ReadSite(c.text); got != c.s || !ok {
-			t.Errorf("ReadSite(%q): got %v, %t, want %v, true", c.text, got, ok, c.s)
-		}
+		siteTexts.checkReadBack(t, c.s, c.text)
 	}
 	random := rand.New(rand.NewSource(46))
 	for range 1000 {
 		s := randomSite(random)
-		if got, ok := impl.ReadSite(impl.SiteText(s)); got != s || !ok {
-			t.Errorf("ReadSite(%q): got %v, %t, want %v, true", impl.SiteText(s), got, ok, s)
-		}
+		siteTexts.checkReadBack(t, s, "a "+impl.AngleText(s.Longitude)+" "+impl.AngleText(s.Latitude))
 	}
 }
 
-func TestP7SiteTextRefuses(t *testing.T) {
-	for _, s := range invalidSites() {
-		checkResult(t, fmt.Sprintf("SiteText(%q)", fmt.Sprint(s)), impl.SiteText(s), "")
-	}
-}
-
-func checkNoSite(t *testing.T, s string) {
-	t.Helper()
-	if got, ok := impl.ReadSite(s); got != (impl.Site{}) || ok {
-		t.Errorf("ReadSite(%.60q): got %v, %t, want the zero Site and false", s, got, ok)
-	}
-}
+func TestP7SiteTextRefuses(t *testing.T) { siteTexts.checkNoTexts(t, invalidSites()) }
 
 func TestP7ReadSiteRefuses(t *testing.T) {
 	texts := []string{
@@ -687,20 +677,11 @@ func TestP7ReadSiteRefuses(t *testing.T) {
 		texts = append(texts, name+" 0.000 0.000")
 	}
 	texts = append(texts, "a "+strings.Repeat("0", 10000)+".000 0.000", "a"+strings.Repeat(" 0.000", 10000), strings.Repeat("a", 10000)+" 0.000 0.000")
-	for _, s := range append(texts, edgeTexts()...) {
-		checkNoSite(t, s)
-	}
+	siteTexts.checkNotRead(t, append(texts, edgeTexts()...))
 }
 
 func TestP7ReadSiteRefusesChangedBytes(t *testing.T) {
 	whole := "jena -111.586 50.930"
-	for i := range len(whole) {
-		checkNoSite(t, whole[:i])
-		for b := range 256 {
-			s := whole[:i] + string([]byte{byte(b)}) + whole[i+1:]
-			if got, ok := impl.ReadSite(s); ok && impl.SiteText(got) != s || !ok && got != (impl.Site{}) {
-				t.Errorf("ReadSite(%q): got %v, %t", s, got, ok)
-			}
-		}
-	}
+	siteTexts.checkChanged(t, whole)
+	siteTexts.checkNoParts(t, whole)
 }

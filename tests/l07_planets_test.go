@@ -3,7 +3,6 @@ package tests
 import (
 	"fmt"
 	"math/rand"
-	"slices"
 	"strings"
 	"testing"
 
@@ -582,6 +581,8 @@ func TestP8NearestDayEverywhere(t *testing.T) {
 
 // Promise 8: texts.
 
+var planetTexts = textForm[impl.Planet]{"Planet", impl.PlanetText, impl.ReadPlanet}
+
 func TestP8PlanetIsReadBack(t *testing.T) {
 	cases := []struct {
 		p    impl.Planet
@@ -590,33 +591,21 @@ func TestP8PlanetIsReadBack(t *testing.T) {
 		{earth, "earth 365256,1000,0"}, {mars, "mars 686980,1524,90000"}, {planet("a", 1000, 1, 0), "a 1000,1,0"},
 		{planet("abcdefghij", 100000000, 50000, 359999), "abcdefghij 100000000,50000,359999"}, {planet("z9", 1001, 2, 1), "z9 1001,2,1"},
 	}
+	for _, c := range cases {
+		planetTexts.checkReadBack(t, c.p, c.text)
+	}
 	random := rand.New(rand.NewSource(57))
 	for range 500 {
 		p := randomPlanet(random)
-		cases = append(cases, struct {
-			p    impl.Planet
-			text string
-		}{p, fmt.Sprintf("%s %d,%d,%d", p.Name, p.Period, p.Radius, p.Start)})
-	}
-	for _, c := range cases {
-		checkResult(t, fmt.Sprintf("PlanetText(%v)", c.p), impl.PlanetText(c.p), c.text)
-		if got, ok := impl.ReadPlanet(c.text); got != c.p || !ok {
-			t.Errorf("ReadPlanet(%q): got %v, %t, want %v, true", c.text, got, ok, c.p)
-		}
+		planetTexts.checkReadBack(t, p, fmt.Sprintf("%s %d,%d,%d", p.Name, p.Period, p.Radius, p.Start))
 	}
 }
 
-func TestP8PlanetTextRefuses(t *testing.T) {
-	for _, p := range invalidPlanets() {
-		checkResult(t, fmt.Sprintf("PlanetText(%q)", fmt.Sprint(p)), impl.PlanetText(p), "")
-	}
-}
+func TestP8PlanetTextRefuses(t *testing.T) { planetTexts.checkNoTexts(t, invalidPlanets()) }
 
-func checkNoPlanet(t *testing.T, s string) {
-	t.Helper()
-	if got, ok := impl.ReadPlanet(s); got != (impl.Planet{}) || ok {
-		t.Errorf("ReadPlanet(%.60q): got %v, %t, want the zero Planet and false", s, got, ok)
-	}
+// noNumbers are words that no list of numbers has.
+func noNumbers() []string {
+	return []string{"+1000", "-0", "01000", "00", "1000.0", "1e3", "0x3e8", "1_000", "", "b", "-", "--1000", "9223372036854775808", "1000000000001"}
 }
 
 func TestP8ReadPlanetRefuses(t *testing.T) {
@@ -625,29 +614,17 @@ func TestP8ReadPlanetRefuses(t *testing.T) {
 		"a", "a ", "a -", "a 1000", "a 1000,1", "a 1000,1,", "a 1000,1,0,", "a 1000,1,0,0", "a ,1000,1,0", "a 1000,,0", "a 1000,1,0 ", " a 1000,1,0", "a  1000,1,0", "a 1000, 1,0", "a 1000 1 0",
 		"a,1000,1,0", "a b 1000,1,0", "a 1000,1,0 b", "1000,1,0", "1000,1,0 a", "a\t1000,1,0", "a 1000,1,0\n", "a\n1000,1,0", "a\u00a01000,1,0", "a 1000;1;0", "a1000,1,0",
 	}
-	for _, word := range []string{"+1000", "-0", "01000", "1000.0", "1e3", "0x3e8", "1_000", "", "b", "-", "--1000", "9223372036854775808", "1000000000001"} {
+	for _, word := range noNumbers() {
 		texts = append(texts, "a "+word+",1,0", "a 1000,"+word+",0", "a 1000,1,"+word)
 	}
 	for _, name := range invalidNames() {
 		texts = append(texts, name+" 1000,1,0")
 	}
 	texts = append(texts, "a "+strings.Repeat("1", 10000)+",1,0", "a 1000"+strings.Repeat(",1", 10000), strings.Repeat("a", 10000)+" 1000,1,0", "a"+strings.Repeat(" 1000,1,0", 1000))
-	for _, s := range slices.Concat(texts, edgeTexts()) {
-		checkNoPlanet(t, s)
-	}
+	planetTexts.checkNotRead(t, append(texts, edgeTexts()...))
 }
 
 func TestP8ReadPlanetRefusesChangedBytes(t *testing.T) {
-	whole := "mars 686980,1524,90000"
-	for i := range len(whole) {
-		if i < len("mars 686980,1524,9") {
-			checkNoPlanet(t, whole[:i])
-		}
-		for b := range 256 {
-			s := whole[:i] + string([]byte{byte(b)}) + whole[i+1:]
-			if got, ok := impl.ReadPlanet(s); ok && impl.PlanetText(got) != s || !ok && got != (impl.Planet{}) {
-				t.Errorf("ReadPlanet(%q): got %v, %t", s, got, ok)
-			}
-		}
-	}
+	planetTexts.checkChanged(t, "mars 686980,1524,90000")
+	planetTexts.checkNoParts(t, "mars 686980,1524,9")
 }
