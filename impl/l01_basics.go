@@ -121,13 +121,22 @@ func ReadList(s string) ([]int64, bool) {
 	if len(texts) > MaxList {
 		return nil, false
 	}
-	list := make([]int64, len(texts))
+	list, ok := readEach(texts, ReadDecimal)
+	if !ok || !within(-MaxValue, MaxValue, list...) {
+		return nil, false
+	}
+	return list, true
+}
+
+// readEach returns the values with texts, in their order; none of them if one text is that of no value.
+func readEach[T any](texts []string, read func(string) (T, bool)) ([]T, bool) {
+	list := make([]T, len(texts))
 	for i, text := range texts {
-		n, ok := ReadDecimal(text)
-		if !ok || !within(-MaxValue, MaxValue, n) {
+		x, ok := read(text)
+		if !ok {
 			return nil, false
 		}
-		list[i] = n
+		list[i] = x
 	}
 	return list, true
 }
@@ -265,6 +274,15 @@ func within[T cmp.Ordered](low, high T, values ...T) bool {
 
 // isIndex reports whether all numbers are indices of a list with a number of values.
 func isIndex(count int, numbers ...int64) bool { return within(0, int64(count)-1, numbers...) }
+
+// indicesOf returns the indices of a list with a number of values.
+func indicesOf(count int) []int64 {
+	indices := make([]int64, count)
+	for i := range indices {
+		indices[i] = int64(i)
+	}
+	return indices
+}
 
 func isBudget(n int64) bool { return within(1, MaxBudget, n) }
 

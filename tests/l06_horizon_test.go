@@ -103,6 +103,10 @@ func checkRefused(t *testing.T, calls []horizonCall, code int64) {
 			checkResult(t, c.call, got, codedPlace(impl.Vector{}, code))
 		case codedList[int64]:
 			checkResult(t, c.call, got, codedMany[int64](nil, code))
+		case codedList[[]int64]:
+			checkResult(t, c.call, got, codedMany[[]int64](nil, code))
+		case codedList[impl.Projector]:
+			checkResult(t, c.call, got, codedMany[impl.Projector](nil, code))
 		case codedTour:
 			checkResult(t, c.call, got, codedOrder(nil, 0, code))
 		case codedSpot:

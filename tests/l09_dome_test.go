@@ -376,12 +376,9 @@ func plainFloor(sines []int64, azimuth, altitude int64) impl.Vector {
 	return plainDirection(sines, plainForwards(azimuth, 90000), altitude)
 }
 
-// plainFloorAngles returns the direction of a vector.
+// plainFloorAngles returns the direction of a vector; both angles of one without a length are 0, which is not an error here.
 func plainFloorAngles(sines []int64, v impl.Vector) codedTwo {
 	angles := plainAngles(sines, v)
-	if angles.code != impl.OK {
-		return codedBoth(0, 0, angles.code)
-	}
 	return codedBoth(plainForwards(angles.longitude, 90000), angles.latitude, impl.OK)
 }
 
@@ -752,9 +749,6 @@ func plainWorst(sines []int64, d impl.Dome, seat impl.Vector, step int64) codedN
 	for azimuth := 359999 / step * step; azimuth >= 0; azimuth -= step {
 		for altitude := 90000 / step * step; altitude >= 0; altitude -= step {
 			seen := plainView(sines, d, seat, azimuth, altitude)
-			if seen.code != impl.OK {
-				return coded(0, seen.code)
-			}
 			worst = max(worst, plainApart(sines, azimuth, altitude, seen.azimuth, seen.altitude))
 		}
 	}
@@ -780,20 +774,48 @@ func TestP10WorstViewsEverywhere(t *testing.T) {
 	}
 }
 
-// A few points between whole degrees are nearer to the middle than Radius - 1, so that a seat inside may be at one of them.
-func TestP10SeatsAtAPointOfTheDomeSeeNoDirection(t *testing.T) {
-	for _, c := range []struct {
-		d                       impl.Dome
-		azimuth, altitude, step int64
-	}{{dome(30000, 0), 255119, 15007, 15007}, {dome(5000, 45000), 60412, 30206, 15103}, {dome(10000, 0), 315567, 0, 15027}} {
+// domesWithSeatsAtPoints are domes with a direction whose point is a place of a seat inside, and a step that leads to this direction:
+// a few points between whole degrees are nearer to the middle than Radius - 1.
+func domesWithSeatsAtPoints() []pointCase {
+	return []pointCase{
+		{dome(30000, 0), 500, 500, 0}, {dome(30000, 0), 45500, 30500, 0}, {dome(30000, 0), 180500, 10500, 0}, {dome(30000, 0), 0, 46500, 15500}, {dome(30000, 30000), 0, 46500, 46500},
+		{dome(30000, 0), 255119, 15007, 15007}, {dome(5000, 45000), 60412, 30206, 15103}, {dome(10000, 0), 315567, 0, 15027},
+	}
+}
+
+// pointCase is a dome with a direction; its step is 0 if no step leads to the direction.
+type pointCase struct {
+	d                       impl.Dome
+	azimuth, altitude, step int64
+}
+
+func TestP10SeatsAtAPointOfTheDome(t *testing.T) {
+	sines := allSines()
+	for _, c := range domesWithSeatsAtPoints() {
 		seat, code := impl.DomePoint(c.d, c.azimuth, c.altitude)
 		call := fmt.Sprintf("(%v, %v, %d, %d)", c.d, seat, c.azimuth, c.altitude)
 		checkResult(t, "the code of DomePoint"+call, code, int64(impl.OK))
-		checkResult(t, "ViewFrom"+call, viewFrom(c.d, seat, c.azimuth, c.altitude), codedView{0, 0, 0, impl.ErrState})
-		checkResult(t, "the code of ViewFrom another direction"+call, viewFrom(c.d, seat, c.azimuth, 90000).code, int64(impl.OK))
-		checkResult(t, "WorstView"+call, coded(impl.WorstView(c.d, seat, c.step)), coded(0, impl.ErrState))
-		_, code = impl.WorstView(c.d, seat, 90000)
-		checkResult(t, "the code of WorstView with another step"+call, code, int64(impl.OK))
+		checkResult(t, "ViewFrom"+call, viewFrom(c.d, seat, c.azimuth, c.altitude), codedView{90000, 0, 0, impl.OK})
+		checkResult(t, "ViewFrom below the floor"+call, viewFrom(c.d, seat, c.azimuth, -1), codedView{0, 0, 0, impl.ErrRange})
+		for _, n := range [][2]int64{{c.azimuth, 90000}, {0, 0}, {90000, 0}, {c.azimuth, c.altitude + 1}} {
+			checkResult(t, fmt.Sprintf("ViewFrom%s, %v", call, n), viewFrom(c.d, seat, n[0], n[1]), plainView(sines, c.d, seat, n[0], n[1]))
+		}
+		for _, step := range []int64{c.step, 15000, 46500, 90000} {
+			if step > 0 {
+				checkResult(t, fmt.Sprintf("WorstView%s, %d", call, step), coded(impl.WorstView(c.d, seat, step)), plainWorst(sines, c.d, seat, step))
+			}
+		}
+	}
+}
+
+// What is seen from its own point is seen to the right at the horizon, even if this is the worst view of all.
+func TestP10WorstViewsFromAPointOfTheDome(t *testing.T) {
+	for _, c := range []struct {
+		d          impl.Dome
+		seat       impl.Vector
+		step, want int64
+	}{{dome(30000, 0), vec(0, 20650, 21760), 15500, 90000}, {dome(30000, 45000), vec(0, 20650, 21760), 46500, 90000}} {
+		checkResult(t, fmt.Sprintf("WorstView(%v, %v, %d)", c.d, c.seat, c.step), coded(impl.WorstView(c.d, c.seat, c.step)), coded(c.want, impl.OK))
 	}
 }
 
