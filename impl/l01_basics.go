@@ -162,6 +162,21 @@ func readNamedNumbers(s string, count int) (name string, numbers []int64, ok boo
 	return name, numbers, ok
 }
 
+// pairText returns two numbers with a separator between them.
+func pairText(first int64, separator string, second int64) string {
+	return Decimal(first) + separator + Decimal(second)
+}
+
+// readPair returns the numbers of a pairText.
+func readPair(s, separator string) (first, second int64, ok bool) {
+	before, behind, _ := strings.Cut(s, separator)
+	numbers, ok := readEach([]string{before, behind}, ReadDecimal)
+	if !ok {
+		return 0, 0, false
+	}
+	return numbers[0], numbers[1], true
+}
+
 // Crc16 returns the check value of bytes.
 func Crc16(s string, start int64) int64 {
 	if !within(0, crcGreatest, start) {

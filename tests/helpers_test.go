@@ -76,8 +76,23 @@ func checkRepeats(t *testing.T, call string, use func() []any) {
 	}
 }
 
+// checkNewList checks that a list shares memory neither with that of another call nor with the arguments, for which kept reports whether they are as before; it writes other over the list.
+func checkNewList[T any](t *testing.T, call string, other T, use func() []T, kept func() bool) {
+	t.Helper()
+	first, second := use(), use()
+	before := slices.Clone(second)
+	for i := range first[:cap(first)] {
+		first[:cap(first)][i] = other
+	}
+	checkResult(t, "another result of "+call, second, before)
+	checkResult(t, "a later result of "+call, use(), before)
+	if !kept() {
+		t.Errorf("%s: its argument shares memory with its result", call)
+	}
+}
+
 // textForm has the functions of a kind of values that have texts.
-type textForm[T comparable] struct {
+type textForm[T any] struct {
 	kind string
 	text func(T) string
 	read func(string) (T, bool)
@@ -87,7 +102,7 @@ type textForm[T comparable] struct {
 func (f textForm[T]) checkReadBack(t *testing.T, x T, text string) {
 	t.Helper()
 	checkResult(t, fmt.Sprintf("%sText(%v)", f.kind, x), f.text(x), text)
-	if got, ok := f.read(text); got != x || !ok {
+	if got, ok := f.read(text); !reflect.DeepEqual(got, x) || !ok {
 		t.Errorf("Read%s(%q): got %v, %t, want %v, true", f.kind, text, got, ok, x)
 	}
 }
@@ -100,11 +115,14 @@ func (f textForm[T]) checkNoTexts(t *testing.T, values []T) {
 	}
 }
 
+// isNone reports whether a value is the zero one, as it has to be where a text leads to none.
+func (f textForm[T]) isNone(x T) bool { return reflect.ValueOf(&x).Elem().IsZero() }
+
 // checkNotRead checks that none of the texts leads to a value.
 func (f textForm[T]) checkNotRead(t *testing.T, texts []string) {
 	t.Helper()
 	for _, s := range texts {
-		if got, ok := f.read(s); got != *new(T) || ok {
+		if got, ok := f.read(s); !f.isNone(got) || ok {
 			t.Errorf("Read%s(%.60q): got %v, %t, want the zero value and false", f.kind, s, got, ok)
 		}
 	}
@@ -127,7 +145,7 @@ func (f textForm[T]) checkChanged(t *testing.T, whole string) {
 			changed = append(changed, whole[:i]+string([]byte{byte(b)})+whole[i+1:])
 		}
 		for _, s := range changed {
-			if got, ok := f.read(s); ok && f.text(got) != s || !ok && got != *new(T) {
+			if got, ok := f.read(s); ok && f.text(got) != s || !ok && !f.isNone(got) {
 				t.Errorf("Read%s(%q): got %v, %t", f.kind, s, got, ok)
 			}
 		}

@@ -113,6 +113,12 @@ func checkRefused(t *testing.T, calls []horizonCall, code int64) {
 			checkResult(t, c.call, got, codedSpot{impl.Spot{}, code})
 		case codedView:
 			checkResult(t, c.call, got, codedView{0, 0, 0, code})
+		case codedMesh:
+			checkResult(t, c.call, got, codedGrid(impl.Mesh{}, code))
+		case codedPoint:
+			checkResult(t, c.call, got, codedPoint{0, 0, 0, code})
+		case codedList[impl.Knot]:
+			checkResult(t, c.call, got, codedMany[impl.Knot](nil, code))
 		default:
 			t.Errorf("%s: a result of another kind: %v", c.call, got)
 		}

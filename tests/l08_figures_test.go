@@ -219,19 +219,10 @@ func TestP1ToursKeepTheirArguments(t *testing.T) {
 	}
 }
 
-// checkNewNumbers checks that a list of numbers shares memory neither with that of another call nor with the arguments, for which kept reports whether they are as before.
+// checkNewNumbers is checkNewList for numbers.
 func checkNewNumbers(t *testing.T, call string, use func() []int64, kept func() bool) {
 	t.Helper()
-	first, second := use(), use()
-	before := slices.Clone(second)
-	for i := range first[:cap(first)] {
-		first[:cap(first)][i] = 7777
-	}
-	checkResult(t, "another result of "+call, second, before)
-	checkResult(t, "a later result of "+call, use(), before)
-	if !kept() {
-		t.Errorf("%s: its argument shares memory with its result", call)
-	}
+	checkNewList(t, call, 7777, use, kept)
 }
 
 func TestP1FigureListsHaveMemoryOfTheirOwn(t *testing.T) {
