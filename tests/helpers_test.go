@@ -91,6 +91,24 @@ func checkNewList[T any](t *testing.T, call string, other T, use func() []T, kep
 	}
 }
 
+// checkNewLines is checkNewList for lists of lists, which must not share memory with one another either.
+func checkNewLines(t *testing.T, call string, use func() [][]int64, kept func() bool) {
+	t.Helper()
+	first, second := use(), use()
+	before := cloneOfLines(second)
+	for i, line := range first {
+		// Writing to one list and behind it changes no list that comes later.
+		for k := range line[:cap(line)] {
+			line[:cap(line)][k] = 7777
+		}
+		if !slices.EqualFunc(first[i+1:], before[i+1:], slices.Equal) {
+			t.Fatalf("%s: its list %d shares memory with a later one", call, i)
+		}
+	}
+	checkResult(t, "another result of "+call, second, before)
+	checkNewList(t, call, nil, use, kept)
+}
+
 // textForm has the functions of a kind of values that have texts.
 type textForm[T any] struct {
 	kind string

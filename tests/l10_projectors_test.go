@@ -221,7 +221,10 @@ func TestP1ProjectorListsHaveMemoryOfTheirOwn(t *testing.T) {
 				few, code := impl.FewestProjectors(roomy, step, 100)
 				return withoutCode(t, few, code)
 			}, kept)
-			checkNewSpots(t, roomy, step, kept)
+			checkNewLines(t, "DarkSpots", func() [][]int64 {
+				spots, code := impl.DarkSpots(roomy, step)
+				return withoutCode(t, spots, code)
+			}, kept)
 		}
 		first, _ := impl.EvenPowers(roomy)
 		second, code := impl.EvenPowers(roomy)
@@ -245,30 +248,6 @@ func withoutCodeOf(t *testing.T, call func([]impl.Projector, int64, int64) ([]in
 	t.Helper()
 	numbers, code := call(list, azimuth, altitude)
 	return withoutCode(t, numbers, code)
-}
-
-// checkNewSpots checks that the dark spots share memory neither with one another, nor with those of another call, nor with the projectors.
-func checkNewSpots(t *testing.T, list []impl.Projector, step int64, kept func() bool) {
-	t.Helper()
-	first, _ := impl.DarkSpots(list, step)
-	second, code := impl.DarkSpots(list, step)
-	before := cloneOfLines(withoutCode(t, second, code))
-	for i := range first {
-		// Writing to one spot and behind it changes no other one.
-		spot := first[i]
-		for k := range spot[:cap(spot)] {
-			spot[:cap(spot)][k] = 7777
-		}
-		if i+1 < len(first) && !slices.Equal(first[i+1], before[i+1]) {
-			t.Fatalf("DarkSpots(%v, %d): the spots %d and %d share memory", list, step, i, i+1)
-		}
-	}
-	for i := range first[:cap(first)] {
-		first[:cap(first)][i] = nil
-	}
-	if !reflect.DeepEqual(second, before) || !kept() {
-		t.Errorf("DarkSpots(%v, %d): its result shares memory with another one or with its argument", list, step)
-	}
 }
 
 // Promise 11: valid projectors.
