@@ -36,6 +36,7 @@ const (
 	crcPolynomial = 4129
 	wordBlank     = " "
 	listComma     = ","
+	pairColon     = ":"
 	emptyListText = "-"
 )
 
@@ -239,6 +240,14 @@ func nearestQuotient(a, b int64) int64 {
 		return -int64(quotient)
 	}
 	return int64(quotient)
+}
+
+// quotientUp returns the quotient rounded up, of a number from 0 on and one from 1 on.
+func quotientUp(a, b int64) int64 {
+	if a%b == 0 {
+		return a / b
+	}
+	return a/b + 1
 }
 
 // sizeOf returns the absolute value; it is unsigned because that of the least int64 is no int64.

@@ -91,6 +91,25 @@ func checkNewList[T any](t *testing.T, call string, other T, use func() []T, kep
 	}
 }
 
+// checkMadeOf is checkNewList for a list that is made of others, which have unused capacity and are written over at last.
+func checkMadeOf[T comparable](t *testing.T, call string, other T, sources [][]T, use func(sources [][]T) []T) {
+	t.Helper()
+	wholes, lists := [][]T{}, [][]T{}
+	for _, source := range sources {
+		whole := slices.Concat(source, make([]T, 300))
+		wholes, lists = append(wholes, whole), append(lists, whole[:len(source)])
+	}
+	before := slices.Concat(wholes...)
+	made := func() []T { return use(lists) }
+	checkNewList(t, call, other, made, func() bool { return slices.Equal(slices.Concat(wholes...), before) })
+	result := made()
+	want := slices.Clone(result)
+	for _, whole := range wholes {
+		copy(whole, slices.Repeat([]T{other}, len(whole)))
+	}
+	checkResult(t, call+" with arguments that are written over", result, want)
+}
+
 // checkNewLines is checkNewList for lists of lists, which must not share memory with one another either.
 func checkNewLines(t *testing.T, call string, use func() [][]int64, kept func() bool) {
 	t.Helper()

@@ -252,43 +252,24 @@ func meshMakers() []func(a, b impl.Mesh) (impl.Mesh, int64) {
 }
 
 func TestP1MeshesHaveMemoryOfTheirOwn(t *testing.T) {
-	roomy := func(m impl.Mesh) (impl.Mesh, []impl.Spot) {
-		whole := slices.Concat(m.Points, slices.Repeat([]impl.Spot{spot(7, -7)}, 300))
-		return mesh(m.Columns, m.Rows, whole[:len(m.Points)]...), whole
-	}
-	over := func(points []impl.Spot) {
-		for i := range points {
-			points[i] = spot(8888, -8888)
-		}
-	}
 	for _, m := range validMeshes() {
 		for i, maker := range meshMakers() {
-			call := fmt.Sprintf("the function %d of %v", i, m)
-			a, wholeA := roomy(m)
-			b, wholeB := roomy(evenMesh(m.Columns, m.Rows))
-			beforeA, beforeB := slices.Clone(wholeA), slices.Clone(wholeB)
-			if _, code := maker(a, b); code == impl.ErrFull && max(m.Columns, m.Rows) > 5 {
+			even := evenMesh(m.Columns, m.Rows)
+			if _, code := maker(m, even); code == impl.ErrFull && max(m.Columns, m.Rows) > 5 {
 				continue
 			}
-			points := func() []impl.Spot {
-				made, code := maker(a, b)
+			checkMadeOf(t, fmt.Sprintf("the function %d of %v", i, m), spot(9999, -9999), [][]impl.Spot{m.Points, even.Points}, func(points [][]impl.Spot) []impl.Spot {
+				made, code := maker(mesh(m.Columns, m.Rows, points[0]...), mesh(m.Columns, m.Rows, points[1]...))
 				return withoutCode(t, made.Points, code)
-			}
-			checkNewList(t, call, spot(9999, -9999), points, func() bool { return slices.Equal(wholeA, beforeA) && slices.Equal(wholeB, beforeB) })
-			kept := points()
-			want := slices.Clone(kept)
-			over(wholeA)
-			over(wholeB)
-			checkResult(t, call+", whose argument is written over", kept, want)
+			})
 		}
 	}
 	for _, m := range []impl.Mesh{mirrored(evenMesh(5, 4)), steadyMesh(9, 9, spot(1, 1)), flatMesh(1, 2, 3, 4)} {
-		a, whole := roomy(m)
-		before := slices.Clone(whole)
+		before := slices.Clone(m.Points)
 		checkNewNumbers(t, "FoldedCells", func() []int64 {
-			cells, code := impl.FoldedCells(a)
+			cells, code := impl.FoldedCells(m)
 			return withoutCode(t, cells, code)
-		}, func() bool { return slices.Equal(whole, before) })
+		}, func() bool { return slices.Equal(m.Points, before) })
 	}
 	checkNewList(t, "ReadMesh", spot(9999, -9999), func() []impl.Spot {
 		m, _ := impl.ReadMesh("2x2 1,2 3,4 5,6 7,8")

@@ -298,29 +298,18 @@ func TestP1BlackLevelsKeepTheirArguments(t *testing.T) {
 func TestP1CurvesHaveMemoryOfTheirOwn(t *testing.T) {
 	other := impl.Knot{In: 8888, Out: -8888}
 	for _, list := range validCurves() {
-		whole := slices.Concat(list, slices.Repeat(curve(7, 7), 20))
-		a, before := whole[:len(list)], slices.Clone(whole)
-		kept := func() bool { return slices.Equal(whole, before) }
 		for _, level := range []int64{0, 500, 1000} {
-			raised := func() []impl.Knot {
-				knots, code := impl.RaiseBlack(a, level)
+			checkMadeOf(t, "RaiseBlack", other, [][]impl.Knot{list}, func(curves [][]impl.Knot) []impl.Knot {
+				knots, code := impl.RaiseBlack(curves[0], level)
 				return withoutCode(t, knots, code)
-			}
-			checkNewList(t, "RaiseBlack", other, raised, kept)
+			})
 		}
-		composed := func() []impl.Knot {
-			knots, code := impl.ComposeCurves(a, a)
-			return withoutCode(t, knots, code)
+		for _, second := range []int{0, 1} {
+			checkMadeOf(t, "ComposeCurves", other, [][]impl.Knot{list, evenCurve(11)}, func(curves [][]impl.Knot) []impl.Knot {
+				knots, code := impl.ComposeCurves(curves[0], curves[second])
+				return withoutCode(t, knots, code)
+			})
 		}
-		checkNewList(t, "ComposeCurves", other, composed, kept)
-		raised, _ := impl.RaiseBlack(a, 0)
-		two := composed()
-		want := slices.Clone(two)
-		for i := range whole {
-			whole[i] = other
-		}
-		checkResult(t, "RaiseBlack with an argument that is written over", raised, list)
-		checkResult(t, "ComposeCurves with an argument that is written over", two, want)
 	}
 	for exponent := int64(1); exponent <= 5; exponent++ {
 		checkNewList(t, "PowerCurve", other, func() []impl.Knot {
