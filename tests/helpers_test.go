@@ -188,3 +188,43 @@ func (f textForm[T]) checkChanged(t *testing.T, whole string) {
 		}
 	}
 }
+
+// sameForm has the function that reports whether two lists are equal, and one that returns values that differ from a value in one field each.
+type sameForm[T comparable] struct {
+	call   string
+	same   func(a, b []T) bool
+	others func(T) []T
+}
+
+func (f sameForm[T]) check(t *testing.T, a, b []T, want bool) {
+	t.Helper()
+	for _, pair := range [][2][]T{{a, b}, {b, a}} {
+		if f.same(pair[0], pair[1]) != want {
+			t.Errorf("%s(%.300q, %.300q): want %t", f.call, fmt.Sprint(pair[0]), fmt.Sprint(pair[1]), want)
+		}
+	}
+}
+
+// checkLists checks that each list is equal to its copy, and to no list that is longer, shorter, in another order, or has another value.
+func (f sameForm[T]) checkLists(t *testing.T, lists [][]T) {
+	t.Helper()
+	f.check(t, nil, []T{}, true)
+	for _, list := range lists {
+		f.check(t, list, slices.Clone(list), true)
+		f.check(t, list, append(slices.Clone(list), *new(T)), false)
+		f.check(t, list, nil, len(list) == 0)
+		for i, x := range list[:min(len(list), 50)] {
+			f.check(t, list, list[:i], false)
+			f.check(t, list, list[i+1:], false)
+			first := list[0]
+			swapped := slices.Clone(list)
+			swapped[0], swapped[i] = x, first
+			f.check(t, list, swapped, x == first)
+			for _, other := range f.others(x) {
+				changed := slices.Clone(list)
+				changed[i] = other
+				f.check(t, list, changed, false)
+			}
+		}
+	}
+}

@@ -272,12 +272,6 @@ func TestP6ValidStars(t *testing.T) {
 	}
 }
 
-func checkSame(t *testing.T, a, b []impl.Star, want bool) {
-	t.Helper()
-	checkResult(t, fmt.Sprintf("SameStars(%v, %v)", a, b), impl.SameStars(a, b), want)
-	checkResult(t, fmt.Sprintf("SameStars(%v, %v)", b, a), impl.SameStars(b, a), want)
-}
-
 // otherStars are stars that differ from x in one field each.
 func otherStars(x impl.Star) []impl.Star {
 	list := slices.Repeat([]impl.Star{x}, 5)
@@ -290,24 +284,8 @@ func otherStars(x impl.Star) []impl.Star {
 }
 
 func TestP6SameStars(t *testing.T) {
-	checkSame(t, nil, []impl.Star{}, true)
-	for _, list := range append(validLists(), invalidLists()...) {
-		checkSame(t, list, slices.Clone(list), true)
-		checkSame(t, list, append(slices.Clone(list), impl.Star{}), false)
-		checkSame(t, list, nil, len(list) == 0)
-	}
-	for _, list := range append(validLists(), invalidStars(), []impl.Star{starAt("b", 0, 0), starAt("a", 0, 0)}) {
-		for i, x := range list {
-			for _, other := range otherStars(x) {
-				changed := slices.Clone(list)
-				changed[i] = other
-				checkSame(t, list, changed, false)
-			}
-		}
-	}
-	checkSame(t, fewStars(), fewStars()[:3], false)
-	checkSame(t, fewStars(), fewStars()[1:], false)
-	checkSame(t, fewStars()[:2], []impl.Star{fewStars()[1], fewStars()[0]}, false)
+	lists := slices.Concat(validLists(), invalidLists(), [][]impl.Star{invalidStars(), {starAt("b", 0, 0), starAt("a", 0, 0)}})
+	sameForm[impl.Star]{"SameStars", impl.SameStars, otherStars}.checkLists(t, lists)
 }
 
 func TestP6InvalidStarsAreRefusedFirst(t *testing.T) {

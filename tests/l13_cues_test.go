@@ -313,12 +313,6 @@ func TestP14ValidCues(t *testing.T) {
 	}
 }
 
-func checkSameCues(t *testing.T, a, b []impl.Cue, want bool) {
-	t.Helper()
-	checkResult(t, "SameCues of "+firstCues(a)+" and "+firstCues(b), impl.SameCues(a, b), want)
-	checkResult(t, "SameCues of "+firstCues(b)+" and "+firstCues(a), impl.SameCues(b, a), want)
-}
-
 // otherCues are cues that differ from c in one field each.
 func otherCues(c impl.Cue) []impl.Cue {
 	list := slices.Repeat([]impl.Cue{c}, 6)
@@ -332,25 +326,8 @@ func otherCues(c impl.Cue) []impl.Cue {
 }
 
 func TestP14SameCues(t *testing.T) {
-	checkSameCues(t, nil, []impl.Cue{}, true)
-	for _, list := range append(validCueLists(), invalidCueLists()...) {
-		checkSameCues(t, list, slices.Clone(list), true)
-		checkSameCues(t, list, append(slices.Clone(list), impl.Cue{}), false)
-		checkSameCues(t, list, nil, len(list) == 0)
-	}
-	for _, list := range append(validCueLists(), invalidCues(), cuesOf("b 5 x set 5", "a 5 x set 5", "a 5 x set 5")) {
-		for i, c := range list {
-			for _, other := range otherCues(c) {
-				changed := slices.Clone(list)
-				changed[i] = other
-				checkSameCues(t, list, changed, false)
-			}
-		}
-	}
-	few := fewCues()
-	checkSameCues(t, few, few[:3], false)
-	checkSameCues(t, few, few[1:], false)
-	checkSameCues(t, few[:2], []impl.Cue{few[1], few[0]}, false)
+	lists := slices.Concat(validCueLists(), invalidCueLists(), [][]impl.Cue{invalidCues(), cuesOf("b 5 x set 5", "a 5 x set 5", "a 5 x set 5")})
+	sameForm[impl.Cue]{"SameCues", impl.SameCues, otherCues}.checkLists(t, lists)
 }
 
 func TestP14InvalidCuesAreRefusedFirst(t *testing.T) {
